@@ -420,8 +420,9 @@ func otherRows(q point.Point) (l [][]byte) {
 		row := row32(new(big.Int).SetBit(high, 255, bit))
 		l = append(l, row[:])
 		if q.Same(q.Neg()) {
-			row[31] ^= 128
-			l = append(l, row[:])
+			turned := row
+			turned[31] ^= 128
+			l = append(l, turned[:])
 		}
 	}
 	return l
@@ -446,8 +447,9 @@ func TestVerifyKeysBytes(t *testing.T) {
 			}
 		}
 	}
-	if others < 4 {
-		t.Errorf("only %d rows: this tests too little", others)
+	// Of zero three, of the other point without x one, of the two whose y is 0 one each.
+	if others != 6 {
+		t.Errorf("%d rows: this tests too little", others)
 	}
 }
 
@@ -467,11 +469,12 @@ func TestVerifyRsBytes(t *testing.T) {
 			if got := eddsa.Verify(key[:], text, append(slices.Clone(row), make([]byte, 32)...)); got != (i == 0) {
 				t.Errorf("P8.1: whether it is right with an R of %x: %v", row, got)
 			}
-			others += i
+			others += min(i, 1)
 		}
 	}
-	if others < 4 {
-		t.Errorf("only %d rows: this tests too little", others)
+	// Of zero three, of the other point without x one, of the two whose y is 0 one each.
+	if others != 6 {
+		t.Errorf("%d rows: this tests too little", others)
 	}
 }
 
